@@ -1,0 +1,1 @@
+"""Slips of the hand: what a row of letters may have meant."""
