@@ -6,6 +6,9 @@ from slipstell.keeper import Keeper
 BEGIN = 1
 READ = 2
 WRITE = 3
+COST = 4
+NTH = 5
+ALL = 6
 
 
 class UnknownCall(ValueError):
@@ -33,4 +36,12 @@ def answer_of(keeper, feed):
         return keeper.read(feed.row())
     if call == WRITE:
         return keeper.write()
+    if call == COST:
+        typed = feed.row()
+        return keeper.cost_of(typed, feed.row())
+    if call == NTH:
+        number = feed.number()
+        return keeper.nth_row(feed.row(), number)
+    if call == ALL:
+        return keeper.first_rows(feed.row())
     raise UnknownCall(call)
